@@ -1,0 +1,1 @@
+"""Words of a text, in modes: see modedpieces.house.answers."""
