@@ -1,7 +1,9 @@
 """A text cut into pieces by the rules of its modes."""
 
+NOTHING = 64
 ODD = 65
 MOST_OPEN = 16
+FIRST_MODE = 0
 
 OPENS = 1
 LEAVES = 2
@@ -36,24 +38,33 @@ class Piece:
 
 def cut(rules, row):
     """Give the list of the pieces that a text's bytes are cut into."""
+    fits = [rule.matcher.fitting(row) for rule in rules]
     pieces = []
-    modes = (0,)
+    modes = (FIRST_MODE,)
     at = 0
     far = 0
     while at < len(row):
-        rule, length, looked = best_match(rules, modes[-1], row, at)
-        far = max(far, at + looked)
-        following = modes_behind(modes, rule)
-        if following is None:
-            pieces.append(Piece(ODD, at, length, modes, far))
-        else:
-            pieces.append(Piece(rule.kind, at, length, modes, far))
-            modes = following
-        at += length
+        piece, modes = cut_one(rules, fits, modes, at)
+        piece.far = max(far, piece.far)
+        pieces.append(piece)
+        far = piece.far
+        at += piece.length
     return pieces
 
 
-def best_match(rules, mode, row, at):
+def cut_one(rules, fits, modes, at):
+    """Give the piece at this place, with how far one looked for it alone, and the modes behind it.
+
+    The row is told by what each rule's matcher tells of it.
+    """
+    rule, length, looked = best_match(rules, fits, modes[-1], at)
+    following = modes_behind(modes, rule)
+    if following is None:
+        return Piece(ODD, at, length, modes, at + looked), modes
+    return Piece(rule.kind, at, length, modes, at + looked), following
+
+
+def best_match(rules, fits, mode, at):
     """Give the rule whose piece begins at this place, its length, and how many bytes were looked at.
 
     The rule is None if none matches; then one byte is a piece.
@@ -61,9 +72,9 @@ def best_match(rules, mode, row, at):
     best = None
     length = 0
     looked = 1
-    for rule in rules:
+    for rule, fitting in zip(rules, fits):
         if rule.mode == mode:
-            longest, seen = rule.matcher.scan(row, at)
+            longest, seen = rule.matcher.scan(fitting, at)
             looked = max(looked, seen)
             # Only a longer one: of as long ones the first rule is to be taken.
             if longest > length:
@@ -114,3 +125,13 @@ def same_piece(old, new):
     The places need no look then: with the same lengths they are as far from the beginning, or from the end.
     """
     return old.kind == new.kind and old.length == new.length and old.modes == new.modes
+
+
+def words_in(pieces, row):
+    """List the words among these pieces of a row: of each its kind, its mode and its bytes."""
+    return [word_of(piece, row) for piece in pieces if piece.kind != NOTHING]
+
+
+def word_of(piece, row):
+    """Give the word that a piece of this row is: its kind, its mode and its bytes."""
+    return piece.kind, piece.modes[-1], row[piece.place:piece.place + piece.length]

@@ -7,9 +7,13 @@ RULE = 2
 TEXT = 3
 PIECES = 4
 EDIT = 5
+AT = 6
+WORDS = 7
+LONGEST = 8
+TIGHT = 9
 
 # Of each call, by its number: how many whole numbers it has, and how many rows behind them.
-FORMS = {1: (1, 0), 2: (4, 1), 3: (0, 1), 4: (0, 0), 5: (2, 1)}
+FORMS = {1: (1, 0), 2: (4, 1), 3: (0, 1), 4: (0, 0), 5: (2, 1), 6: (1, 0), 7: (0, 0), 8: (1, 1), 9: (0, 1)}
 
 
 def answers(calls):
@@ -46,4 +50,12 @@ def answer_call(session, call, values, row):
         return session.set_text(row)
     if call == PIECES:
         return session.tell_pieces()
-    return session.edit(values[0], values[1], row)
+    if call == EDIT:
+        return session.edit(values[0], values[1], row)
+    if call == AT:
+        return session.tell_at(values[0])
+    if call == WORDS:
+        return session.tell_words()
+    if call == LONGEST:
+        return session.tell_longest(values[0], row)
+    return session.write_tight(row)

@@ -14,7 +14,7 @@ CHUNK_MASK = 255
 
 
 class Matcher:
-    """A pattern as steps: each of its single bytes is one.
+    """A pattern as steps: each of its single bytes is one. empty tells whether it matches no byte.
 
     A set of steps is a whole number, bit k of it for step k. The shape of a part is a tuple: whether it matches
     no byte, which steps may be its first, which its last. Parts that match no row at all are left out, so that
@@ -22,13 +22,14 @@ class Matcher:
     """
 
     def __init__(self, parts):
-        self.behind = []
+        self.behind = Links()
+        self.ahead = Links()
         self.by_byte = [0] * (TOP_BYTE + 1)
-        self.chunks = {}
         shapes = []
         # From the last part to the first, the parts within one are done ahead of it.
         for sort, members in reversed(parts):
             shapes.append(self.shape_of(sort, members, shapes))
+        self.empty = shapes[0][0]
         self.first = shapes[0][1]
         self.last = shapes[0][2]
 
@@ -49,8 +50,8 @@ class Matcher:
         """Add a step for one of these bytes."""
         if not members:
             return False, 0, 0
-        step = 1 << len(self.behind)
-        self.behind.append(0)
+        step = self.behind.add_step()
+        self.ahead.add_step()
         for byte in members:
             self.by_byte[byte] |= step
         return False, step, step
@@ -73,50 +74,85 @@ class Matcher:
 
     def link(self, last, first):
         """Let each of the first steps come behind each of the last ones."""
-        for step in steps_in(last):
-            self.behind[step] |= first
+        self.behind.lead(last, first)
+        self.ahead.lead(first, last)
 
-    def steps_behind(self, done):
-        """Give the set of steps that may come behind those in the set done."""
+    def fitting(self, row):
+        """List for each byte of the row which steps match it."""
+        return [self.by_byte[byte] for byte in row]
+
+    def promising(self, row):
+        """List for each byte of the row which steps match it with a match that's finished within the row."""
+        listed = []
         coming = 0
-        start = 0
-        while done:
-            chunk = done & CHUNK_MASK
-            if chunk:
-                found = self.chunks.get((start, chunk))
-                coming |= self.chunk_behind(start, chunk) if found is None else found
-            done >>= CHUNK_BITS
-            start += CHUNK_BITS
-        return coming
+        for byte in reversed(row):
+            done = self.by_byte[byte] & (self.last | self.ahead.reached(coming))
+            listed.append(done)
+            coming = done
+        listed.reverse()
+        return listed
 
-    def chunk_behind(self, start, chunk):
-        """Give the steps behind those of a set's chunk that starts at this step, and keep them.
-
-        Sets are many and their chunks few: large patterns would be slow if gone through step by step.
-        """
-        coming = 0
-        for step in steps_in(chunk):
-            coming |= self.behind[start + step]
-        self.chunks[(start, chunk)] = coming
-        return coming
-
-    def scan(self, row, place):
+    def scan(self, fitting, place):
         """Tell of the bytes from place on how many the longest match has and how many must be looked at.
 
-        The first is 0 if no row of one byte or more is matched. The text's end counts as one byte looked at.
+        The bytes are told by the steps that match them, as fitting lists them; if promising does, one looks no
+        further than the longest match. The first number is 0 if no row of one byte or more is matched. The text's
+        end counts as one byte looked at.
         """
         coming = self.first
         at = place
         longest = 0
-        while coming and at < len(row):
-            done = coming & self.by_byte[row[at]]
+        while coming and at < len(fitting):
+            done = coming & fitting[at]
             at += 1
             if done & self.last:
                 longest = at - place
-            coming = self.steps_behind(done)
+            coming = self.behind.reached(done)
         if coming:
             return longest, at - place + 1
         return longest, at - place
+
+
+class Links:
+    """Where one comes to from each step."""
+
+    def __init__(self):
+        self.table = []
+        self.chunks = {}
+
+    def add_step(self):
+        """Add a step from which one comes to none yet, and give the set that has it alone."""
+        self.table.append(0)
+        return 1 << (len(self.table) - 1)
+
+    def lead(self, starts, ends):
+        """Let one come from each of these steps to each of those."""
+        for step in steps_in(starts):
+            self.table[step] |= ends
+
+    def reached(self, steps):
+        """Give the set of steps to which one comes from those in a set."""
+        ends = 0
+        start = 0
+        while steps:
+            chunk = steps & CHUNK_MASK
+            if chunk:
+                found = self.chunks.get((start, chunk))
+                ends |= self.reached_from_chunk(start, chunk) if found is None else found
+            steps >>= CHUNK_BITS
+            start += CHUNK_BITS
+        return ends
+
+    def reached_from_chunk(self, start, chunk):
+        """Give the steps to which one comes from a set's chunk that starts at this step, and keep them.
+
+        Sets are many and their chunks few: large patterns would be slow if gone through step by step.
+        """
+        ends = 0
+        for step in steps_in(chunk):
+            ends |= self.table[start + step]
+        self.chunks[(start, chunk)] = ends
+        return ends
 
 
 def matches_nothing(shape):

@@ -5,13 +5,17 @@ from modedpieces.cutting import count_odd
 from modedpieces.cutting import count_same_ahead
 from modedpieces.cutting import count_same_behind
 from modedpieces.cutting import cut
+from modedpieces.cutting import words_in
 from modedpieces.matching import Matcher
 from modedpieces.patterns import TOP_BYTE
 from modedpieces.patterns import read_pattern
+from modedpieces.writing import best_places
+from modedpieces.writing import write
 
 MOST_MODES = 8
 MOST_RULES = 24
 MOST_BYTES = 200
+MOST_WORDS = 9
 TOP_KIND = 64
 TOP_DOES = 3
 
@@ -80,6 +84,48 @@ class Session:
         most = min(len(old), len(new)) - ahead
         behind = count_same_behind(old, new, most)
         return [len(new), count_odd(new), ahead, behind]
+
+    def tell_at(self, at):
+        """Tell of the piece with the byte of this number, and which modes are open ahead of it."""
+        if at >= len(self.row):
+            return [-2]
+        ahead = 0
+        while self.pieces[ahead].place + self.pieces[ahead].length <= at:
+            ahead += 1
+        piece = self.pieces[ahead]
+        return [ahead] + piece.told() + list(reversed(piece.modes))
+
+    def tell_words(self):
+        """Tell how many words the text has, and their kinds."""
+        kinds = [kind for kind, mode, row in words_in(self.pieces, self.row)]
+        return [len(kinds)] + kinds
+
+    def tell_longest(self, number, row):
+        """Tell how many of these bytes, from the first on, are the longest row that a rule's pattern matches."""
+        if not may_be_text(row):
+            return [-1]
+        if number >= len(self.rules):
+            return [-2]
+        matcher = self.rules[number].matcher
+        longest, looked = matcher.scan(matcher.fitting(row), 0)
+        # A scan tells 0 both for no byte and for no row at all.
+        if longest == 0 and not matcher.empty:
+            return [-3]
+        return [longest]
+
+    def write_tight(self, separator):
+        """Tell how the text's words are written with the fewest separators."""
+        if not may_be_text(separator):
+            return [-1]
+        if count_odd(self.pieces) > 0:
+            return [-3]
+        words = words_in(self.pieces, self.row)
+        if len(words) > MOST_WORDS:
+            return [-5]
+        places = best_places(self.rules, words, separator)
+        if places is None:
+            return [-2]
+        return [len(places)] + write(words, places, separator)
 
     def put_text(self, row):
         """Keep this text and its pieces."""

@@ -1,6 +1,7 @@
 """What the tests share: calls put into a list, answers taken out of one, and a plain reading of the document."""
 
 from functools import lru_cache
+from itertools import combinations
 
 from modedpieces.house import answers
 
@@ -29,16 +30,32 @@ def edit(i, n, row):
     return [5, i, n, len(row)] + list(row)
 
 
+def at(i):
+    return [6, i]
+
+
+def words():
+    return [7]
+
+
+def longest(number, row):
+    return [8, number, len(row)] + list(row)
+
+
+def tight(separator):
+    return [9, len(separator)] + list(separator)
+
+
 def ask(*calls):
     """Answer these calls as one list; give back one list of numbers a call."""
     told = answers([number for call in calls for number in call])
     split = []
-    at = 0
-    while at < len(told):
-        size = told[at]
-        assert size >= 1 and at + 1 + size <= len(told)
-        split.append(told[at + 1:at + 1 + size])
-        at += 1 + size
+    place = 0
+    while place < len(told):
+        size = told[place]
+        assert size >= 1 and place + 1 + size <= len(told)
+        split.append(told[place + 1:place + 1 + size])
+        place += 1 + size
     assert len(split) == len(calls)
     return split
 
@@ -50,7 +67,7 @@ def last(*calls):
 def in_fives(answer):
     """Take the answer of pieces apart: a tuple of five numbers each."""
     assert len(answer) == 1 + 5 * answer[0]
-    return [tuple(answer[at:at + 5]) for at in range(1, len(answer), 5)]
+    return [tuple(answer[place:place + 5]) for place in range(1, len(answer), 5)]
 
 
 def cut(*calls):
@@ -270,6 +287,130 @@ def five(piece):
     return piece[0], piece[1], piece[2], piece[3][-1], piece[4]
 
 
+def plain_words(rules, row):
+    """The words of a row: kind, mode, bytes."""
+    found = plain_cut(rules, row)
+    return [(kind, modes[-1], row[place:place + length]) for kind, place, length, modes, far in found if kind != 64]
+
+
+def put_together(found, places, separator):
+    """The bytes of these words, with the separator ahead of those at the places."""
+    return [byte for number, word in enumerate(found) for byte in (separator if number in places else []) + word[2]]
+
+
+def plain_tight(rules, row, separator):
+    """What tight answers, by trying one set of places after another."""
+    found = plain_words(rules, row)
+    if any(piece[0] == 65 for piece in plain_cut(rules, row)):
+        return [-3]
+    if len(found) > 9:
+        return [-5]
+    for many in range(max(len(found), 1)):
+        for places in combinations(range(1, len(found)), many):
+            written = put_together(found, places, separator)
+            if plain_words(rules, written) == found:
+                return [many] + written
+    return [-2]
+
+
+def pattern_end(row, place, level):
+    """Where the pattern at this place ends, or None if there's none."""
+    if level > 40 or place >= len(row) or row[place] > 8:
+        return None
+    sort, rest = row[place], row[place + 1:]
+    if sort in (1, 2):
+        if not rest or len(rest) - 1 < rest[0] or (sort, rest[0]) == (1, 0):
+            return None
+        if max(rest[1:1 + rest[0]], default=0) > 255:
+            return None
+        return place + 2 + rest[0]
+    if sort == 8:
+        return place + 3 if len(rest) >= 2 and rest[0] <= rest[1] <= 255 else None
+    place += 1
+    for _ in range((0, 0, 0, 2, 2, 1, 1, 1)[sort]):
+        place = pattern_end(row, place, level + 1)
+        if place is None:
+            return None
+    return place
+
+
+def is_text(row):
+    return len(row) <= 200 and all(byte <= 255 for byte in row)
+
+
+class PlainHouse:
+    """The calls once more, each told as its list of numbers is."""
+
+    def __init__(self):
+        self.modes = 1
+        self.rules = []
+        self.row = []
+
+    def answer(self, call):
+        names = (None, "begin", "rule", "text", "pieces", "edit", "at", "words", "longest", "tight")
+        return getattr(self, names[call[0]])(*call[1:])
+
+    def begin(self, modes):
+        if not 1 <= modes <= 8:
+            return [-1]
+        self.modes, self.rules, self.row = modes, [], []
+        return [0]
+
+    def rule(self, mode, kind, does, to, size, *pattern):
+        if mode >= self.modes or to >= self.modes or kind > 64 or does > 3:
+            return [-1]
+        if pattern_end(list(pattern), 0, 0) != size:
+            return [-3]
+        if len(self.rules) == 24:
+            return [-5]
+        self.rules.append((mode, kind, does, to, list(pattern)))
+        self.row = []
+        return [len(self.rules) - 1]
+
+    def text(self, size, *row):
+        if not is_text(row):
+            return [-1]
+        self.row = list(row)
+        found = plain_cut(self.rules, self.row)
+        return [len(found), len([piece for piece in found if piece[0] == 65])]
+
+    def pieces(self):
+        found = plain_cut(self.rules, self.row)
+        return [len(found)] + [number for piece in found for number in five(piece)]
+
+    def edit(self, i, n, size, *row):
+        new_row = self.row[:i] + list(row) + self.row[i + n:]
+        if i + n > len(self.row) or not is_text(new_row):
+            return [-1]
+        told = plain_edit(self.rules, self.row, new_row)
+        self.row = new_row
+        return told
+
+    def at(self, i):
+        for ahead, piece in enumerate(plain_cut(self.rules, self.row)):
+            if piece[1] <= i < piece[1] + piece[2]:
+                return [ahead, *five(piece), *piece[3][::-1]]
+        return [-2]
+
+    def words(self):
+        kinds = [word[0] for word in plain_words(self.rules, self.row)]
+        return [len(kinds)] + kinds
+
+    def longest(self, number, size, *row):
+        if not is_text(row):
+            return [-1]
+        if number >= len(self.rules):
+            return [-2]
+        tree = tree_of(self.rules[number][4])
+        size = plain_scan(tree, row, 0)[0]
+        return [size] if size or has_empty(tree) else [-3]
+
+    def tight(self, size, *separator):
+        if not is_text(separator):
+            return [-1]
+        return plain_tight(self.rules, self.row, list(separator))
+
+
 class Chance:
     """Numbers that look like chance, and are the same at every run."""
 
@@ -308,3 +449,16 @@ class Chance:
         does = self.pick([0, 0, 0, 1, 1, 2, 3])
         kind = self.pick([0, 1, 2, 63, 64])
         return self.below(modes), kind, does, self.below(modes), self.pattern(self.below(5), letters)
+
+    def reader(self, modes):
+        """Rules by which blanks are nothing, most pieces are words, and letters together are often another word."""
+        told = []
+        for _ in range(1 + self.below(6)):
+            letters = [self.pick(codes("ab"))] + self.row(3, codes("aab "))
+            pattern = self.pick([word(bytes(letters).decode()), plus([8, 97, 98]), plus([1, 1, letters[0]]),
+                                 [3, 1, 1, letters[0], 3, 5] + self.pick([ANY, none_of(" ")]) + one("b")])
+            told.append((self.below(modes), self.pick([1, 2, 2, 64]), self.pick([0, 0, 0, 0, 1, 2, 3]),
+                         self.below(modes), pattern))
+        for mode in range(modes):
+            told += [(mode, 64, 0, 0, self.pick([one(" "), plus(one(" "))])), (mode, 3, 0, 0, ANY)]
+        return told

@@ -3,7 +3,8 @@
 import unittest
 
 import modedpieces.house
-from support import ANY, NOTHING, TOP, ask, begin, codes, edit, last, one, pieces, plus, rule, span, text
+from support import ANY, NOTHING, TOP, ask, at, begin, codes, edit, last, longest, one, pieces, plus, rule, span
+from support import text, tight, words
 
 RULES = [begin(2), rule(0, 1, 1, 1, one("(")), rule(1, 2, 2, 0, one(")"))]
 STATE = [pieces(), rule(1, 3, 0, 0, ANY), text(codes("(a)")), pieces()]
@@ -15,6 +16,16 @@ class Answers(unittest.TestCase):
         self.assertEqual(modedpieces.house.answers(calls),
                          [1, 0, 1, 0, 2, 2, 1, 11, 2, 5, 0, 1, 0, 1, 65, 1, 1, 0, 2, 4, 2, 0, 1, 0,
                           11, 2, 5, 0, 1, 0, 1, 5, 1, 1, 0, 2, 1, -1])
+
+    def test_the_list_of_the_calls_that_only_ask(self):
+        calls = [2, 0, 5, 0, 0, 4, 6, 8, 97, 122, 3, 3, 97, 98, 99, 6, 1, 7, 8, 0, 3, 97, 32, 98, 9, 1, 32, 6, 3,
+                 8, 0, 1, 32, 8, 1, 0, 9, 1, 300]
+        self.assertEqual(modedpieces.house.answers(calls),
+                         [1, 0, 2, 1, 0, 7, 0, 5, 0, 3, 0, 4, 0, 2, 1, 5, 1, 1, 4, 0, 97, 98, 99, 1, -2,
+                          1, -3, 1, -2, 1, -1])
+
+    def test_a_house_of_nothing_that_is_asked(self):
+        self.assertEqual(modedpieces.house.answers([6, 0, 7, 8, 0, 0, 9, 0, 4]), [1, -2, 1, 0, 1, -2, 1, 0, 1, 0])
 
     def test_rows_of_no_number(self):
         self.assertEqual(modedpieces.house.answers([2, 0, 0, 0, 0, 0, 3, 0, 5, 0, 0, 0]), [1, -3, 2, 0, 0, 4, 0, 0, 0, 0])
@@ -29,7 +40,8 @@ class Answers(unittest.TestCase):
         self.assertEqual(len(told[-1]), 1001)
 
     def test_what_is_handed_in_stays_as_it_was(self):
-        calls = [number for call in RULES + STATE + [edit(1, 1, codes("bc")), pieces(), begin(3), text([256])]
+        calls = [number for call in RULES + STATE + [edit(1, 1, codes("bc")), pieces(), at(1), words(),
+                                                    longest(0, codes("((")), tight(codes(" ")), begin(3), text([256])]
                  for number in call]
         before = list(calls)
         modedpieces.house.answers(calls)
@@ -43,8 +55,8 @@ class Answers(unittest.TestCase):
         self.assertEqual(modedpieces.house.answers([3, 1, 7, 4]), [2, 1, 1, 6, 1, 65, 0, 1, 0, 1])
 
     def test_a_second_time_is_as_the_first(self):
-        first = ask(*RULES, *STATE)
-        self.assertEqual(ask(*RULES, *STATE), first)
+        first = ask(*RULES, *STATE, at(1), words(), longest(1, codes(")")), tight([]))
+        self.assertEqual(ask(*RULES, *STATE, at(1), words(), longest(1, codes(")")), tight([])), first)
         self.assertEqual(ask(pieces(), text([40]), rule(0, 0, 0, 0, ANY)), [[0], [1, 1], [0]])
         # One mode is there at the beginning, not those of the time before.
         self.assertEqual(ask(rule(1, 0, 0, 0, ANY)), [[-1]])
